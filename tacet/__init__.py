@@ -1,0 +1,1 @@
+"""Tacet: machines that stop, and machines that never do."""

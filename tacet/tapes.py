@@ -126,6 +126,20 @@ def trace(machine, count):
     return pairs
 
 
+def gathered(state, place, start, runs):
+    """Return the configuration whose cells from start on are those of the runs (symbol, count), from left to right.
+
+    There may be blanks at both ends of the runs. Raises TooLarge.
+    """
+    marked = [at for at, (symbol, _) in enumerate(runs) if symbol != 0]
+    kept = runs[marked[0]:marked[-1] + 1] if marked else []
+    first = start + sum([count for _, count in runs[:marked[0]]]) if marked else 0
+    # A count may be so great that the cells cannot be written out.
+    if _is_too_large(place, first, sum([count for _, count in kept])):
+        raise TooLarge("the configuration would be too large")
+    return (state, place, first, tuple([symbol for symbol, count in kept for _ in range(count)]))
+
+
 def mirrored_tape(configuration):
     """Return the configuration with each symbol, and the head, at the opposite place."""
     state, place, first, cells = configuration

@@ -182,3 +182,98 @@ def plain_tree(states, symbols, count):
         return [machine] + [found for child in plain_children(machine, count) for found in below(child)]
 
     return below(((PLAIN,) * symbols,) * states)
+
+
+def plain_history(machine, count):
+    """The configurations of a run from BLANK, each as (state, place, tape) with a dict of the cells."""
+    state, place, tape = 0, 0, {}
+    found = [(state, place, dict(tape))]
+    while len(found) <= count and state != -1:
+        tape[place], move, state = machine[state][tape.get(place, 0)]
+        place += move
+        found.append((state, place, dict(tape)))
+    return found
+
+
+def plain_runs(configuration):
+    """The tape of runs of a configuration with the head near its cells, in the words of the document."""
+    state, place, first, cells = configuration
+    tape = {first + index: cell for index, cell in enumerate(cells)}
+    last = first + len(cells) - 1
+    left = [tape.get(at, 0) for at in range(place - 1, first - 1, -1)] if cells else []
+    right = [tape.get(at, 0) for at in range(place + 1, last + 1)] if cells else []
+    sides = [tuple((symbol, len(list(part))) for symbol, part in itertools.groupby(side)) for side in (left, right)]
+    return (state, place, tape.get(place, 0), sides[0], sides[1])
+
+
+def some_strip(numbers, machine, longest):
+    """A tape of runs that fits the machine, with runs of up to the given number of cells."""
+    symbols = len(machine[0])
+    sides = []
+    for _ in range(2):
+        runs = []
+        for _ in range(numbers.below(4)):
+            others = [symbol for symbol in range(symbols) if not runs or symbol != runs[-1][0]]
+            runs.append((numbers.pick(others), 1 + numbers.below(longest)))
+        if runs and runs[-1][0] == 0:
+            runs.append((1, 1))
+        sides.append(tuple(runs))
+    return (numbers.below(len(machine)), numbers.below(21) - 10, numbers.below(symbols), sides[0], sides[1])
+
+
+def plain_is_loop(machine, first, second, right):
+    """Whether this is a loop, in the words of the document."""
+    if not right:
+        machine = tuple(tuple((write, -move, state) for write, move, state in row) for row in machine)
+    seen = plain_history(machine, second)
+    if len(seen) <= second or seen[second][0] == -1:
+        return False
+    early, late = seen[first], seen[second]
+    by = late[1] - early[1]
+    least = min(place for _, place, _ in seen[first:second + 1])
+    if early[0] != late[0] or by < 0:
+        return False
+    # Beyond these places all cells of both configurations are blank.
+    return all(early[2].get(at, 0) == late[2].get(at + by, 0) for at in range(least, 2 * second + 2))
+
+
+def plain_find_loop(machine, count):
+    """The loop that find_loop takes, in the words of the document."""
+    for second in range(1, count + 1):
+        for first in range(second - 1, -1, -1):
+            for right in (True, False):
+                if plain_is_loop(machine, first, second, right):
+                    return (first, second, right)
+    return None
+
+
+def plain_cross(machine, state, index, block):
+    """The crossing of a block, in the words of the document."""
+    before, steps = [], 0
+    while state != -1 and 0 <= index < len(block):
+        if (state, index, block) in before:
+            return ("never", -1, (), 0, 0)
+        before.append((state, index, block))
+        write, move, state = machine[state][block[index]]
+        block = block[:index] + (write,) + block[index + 1:]
+        index, steps = index + move, steps + 1
+    kind = "stop" if state == -1 else "left" if index < 0 else "right"
+    return (kind, state, block, steps, index)
+
+
+def plain_crossings(machine, length, count):
+    """The crossings of blocks, step by step on a plain tape."""
+    state, place, tape = 0, 0, {}
+    done = steps = 0
+    for _ in range(count):
+        start = place // length * length
+        block = tuple(tape.get(start + at, 0) for at in range(length))
+        kind, after, block, more, index = plain_cross(machine, state, place - start, block)
+        done += 1
+        if kind == "never":
+            return settled(state, place, tape), done, steps, kind
+        tape.update({start + at: symbol for at, symbol in enumerate(block)})
+        state, place, steps = after, start + index, steps + more
+        if kind == "stop":
+            return settled(state, place, tape), done, steps, kind
+    return settled(state, place, tape), done, steps, kind if count else ""

@@ -8,6 +8,7 @@ import unittest
 
 FOLDER = pathlib.Path(__file__).resolve().parent.parent / "tacet"
 
+# A star stands before the arguments that are passed by keyword only.
 INTERFACE = {
     "errors": {"TacetError": None, "TooLarge": None, "Stopped": None, "BadText": None, "BadNames": None},
     "machines": {
@@ -23,11 +24,27 @@ INTERFACE = {
         "normal_form": ["machine", "count"], "root": ["states", "symbols"], "children": ["machine", "count"],
         "tree": ["states", "symbols", "count", "most"],
     },
+    "records": {
+        "places": ["machine", "count"], "records": ["machine", "count", "*right"], "used": ["machine", "count"],
+    },
+    "leaps": {
+        "to_runs": ["configuration"], "from_runs": ["tape"], "leap": ["machine", "tape"],
+        "leaps": ["machine", "tape", "count"],
+    },
+    "blocks": {"cross": ["machine", "state", "index", "block"], "crossings": ["machine", "length", "count"]},
+    "loops": {
+        "is_loop": ["machine", "first", "second", "*right"], "find_loop": ["machine", "count"],
+        "far": ["machine", "loop", "steps"],
+    },
 }
 CONSTANTS = {
     "machines": {"MOST_STATES": 4, "MOST_SYMBOLS": 4, "STOP": -1},
     "tapes": {"MOST_CELLS": 10000, "BLANK": (0, 0, 0, ())},
+    "leaps": {"MOST_RUNS": 1000},
+    "blocks": {"MOST_BLOCK": 6},
+    "loops": {"MOST_LOOK": 2000},
 }
+STARS = {inspect.Parameter.POSITIONAL_OR_KEYWORD: "", inspect.Parameter.KEYWORD_ONLY: "*"}
 LIBRARY = ("heapq", "math", "itertools", "collections", "__future__")
 
 
@@ -51,8 +68,8 @@ class Interface(unittest.TestCase):
                     continue
                 with self.subTest(file=file, name=name):
                     found = inspect.signature(getattr(module, name)).parameters.values()
-                    self.assertEqual([one.name for one in found], arguments)
-                    self.assertEqual({one.kind for one in found}, {inspect.Parameter.POSITIONAL_OR_KEYWORD})
+                    self.assertEqual([STARS[one.kind] + one.name for one in found], arguments)
+                    self.assertEqual({one.default for one in found}, {inspect.Parameter.empty})
 
     def test_constants(self):
         for file, names in CONSTANTS.items():

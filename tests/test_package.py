@@ -36,6 +36,20 @@ INTERFACE = {
         "is_loop": ["machine", "first", "second", "*right"], "find_loop": ["machine", "count"],
         "far": ["machine", "loop", "steps"],
     },
+    "backward": {
+        "level": ["machine", "depth"], "is_dead_end": ["machine", "depth"], "find_dead_end": ["machine", "depth"],
+    },
+    "closed": {
+        "is_automaton": ["value", "symbols"], "is_right": ["machine", "value"], "close": ["machine", "left", "right"],
+        "reads": ["machine", "closed_set", "configuration"],
+    },
+    "automata": {
+        "gram": ["count", "symbols"], "plain_automata": ["count", "symbols"], "product": ["first", "second"],
+        "find_grams": ["machine", "count"], "find_small": ["machine", "count"],
+    },
+    "shapes": {
+        "is_shape": ["machine", "value"], "shape_tape": ["shape", "number"], "has_shape": ["machine", "start", "shape"],
+    },
 }
 CONSTANTS = {
     "machines": {"MOST_STATES": 4, "MOST_SYMBOLS": 4, "STOP": -1},
@@ -43,6 +57,10 @@ CONSTANTS = {
     "leaps": {"MOST_RUNS": 1000},
     "blocks": {"MOST_BLOCK": 6},
     "loops": {"MOST_LOOK": 2000},
+    "backward": {"MOST_DEPTH": 20, "MOST_PARTIALS": 300},
+    "closed": {"MOST_ROWS": 64, "MOST_ELEMENTS": 3000},
+    "automata": {"MOST_GRAM": 5},
+    "shapes": {"MOST_REPEATS": 2},
 }
 STARS = {inspect.Parameter.POSITIONAL_OR_KEYWORD: "", inspect.Parameter.KEYWORD_ONLY: "*"}
 LIBRARY = ("heapq", "math", "itertools", "collections", "__future__")

@@ -58,7 +58,7 @@ def _is_ascending(value, limits):
 
 
 def _sources(automaton, edges):
-    """Return the list that has, for each row of the automaton, the list of the edges behind which it is."""
+    """Return the list that has, for each row of the automaton, the list of the edges that lead to it."""
     found = [[] for _ in automaton]
     for row, symbol in edges:
         found[automaton[row][symbol]].append((row, symbol))
@@ -68,8 +68,8 @@ def _sources(automaton, edges):
 def _demand(machine, left, right, quad):
     """Return what a step from the element of a closed set demands, or None if the step stops.
 
-    This is a tuple (move, edge, behind, state, ahead): an edge of the side that the head leaves, the row
-    behind it, and, for each edge of the other side behind which is the row ahead, an element (see _led_to).
+    This is a tuple (move, edge, behind, state, ahead): the edge is one of the side that the head leaves, with
+    the row behind. For each edge of the other side that leads to the row ahead, the step leads to an element.
     """
     left_row, state, symbol, right_row = quad
     write, move, after = machine[state][symbol]
@@ -99,8 +99,8 @@ def _is_kept(demand, edges, sources, known):
 class Closure:
     """The edges and elements that are demanded, as they are found.
 
-    A side is -1 or 1. For each row of a side, `sources` has the edges behind which it is, and `waiting`
-    the pairs (behind, state) for which each of these edges leads to an element.
+    A side is -1 or 1. For each row of a side, `sources` has the edges that lead to it, and `waiting` the
+    pairs (behind, state) for which each of these edges demands an element.
     """
 
     def __init__(self, left, right):
@@ -136,7 +136,7 @@ class Closure:
             self.known[quad] = True
             self.quads.append(quad)
             if len(self.quads) > MOST_ELEMENTS:
-                raise TooLarge("the closed set would have too many elements")
+                raise TooLarge("the closed set would be too large")
 
 
 def close(machine, left, right):

@@ -1,8 +1,9 @@
 """Slow, plain models of what the document says of steps backwards, closed sets, automata and shapes."""
 
 import itertools
+import re
 
-from tests.samples import Numbers, plain_step, settled
+from tests.samples import settled
 
 
 def plain_level(machine, depth):
@@ -219,3 +220,105 @@ def some_shape(numbers, machine):
     words = tuple(word(0) for _ in range(many + 1))
     repeats = tuple(word(1) for _ in range(many))
     return (numbers.below(2) == 1, numbers.below(len(machine)), words, repeats, 1 + numbers.below(20))
+
+
+def some_rows(numbers, most):
+    """A tuple of tuples of any lengths."""
+    return tuple(tuple(numbers.below(most + 1) for _ in range(numbers.below(4))) for _ in range(numbers.below(4)))
+
+
+def some_parts(numbers, most, long):
+    """A tuple of tuples of the same length, in any order."""
+    return tuple(tuple(numbers.below(most + 1) for _ in range(long)) for _ in range(numbers.below(4)))
+
+
+def some_evidence(numbers):
+    """Evidence of any form, which seldom shows anything."""
+    number, other = numbers.below(2001), numbers.below(2001)
+    kind = numbers.pick(["stop", "loop", "back", "closed", "shape"])
+    if kind == "loop":
+        return (kind, number, other, numbers.below(2) == 1)
+    if kind == "closed":
+        most = numbers.pick([1, 3, 12, 1000000])
+        edges = (some_parts(numbers, most, 2), some_parts(numbers, most, 2))
+        return (kind, (some_rows(numbers, most), some_rows(numbers, most), *edges, some_parts(numbers, most, 4)))
+    if kind == "shape":
+        return (kind, number, some_shape(numbers, ((0,) * 4,) * 4))
+    return (kind, number)
+
+
+def plain_text(evidence):
+    """The text of evidence, in the words of the document."""
+    def fixed(parts):
+        return " ".join(str(int(part)) for part in parts)
+
+    def variable(parts, told):
+        return " ".join([str(len(parts))] + [told(part) for part in parts])
+
+    def row(part):
+        return variable(part, str)
+
+    kind, *parts = evidence
+    if kind == "closed":
+        left, right, left_edges, right_edges, found = parts[0]
+        told = [variable(left, row), variable(right, row)]
+        told += [variable(left_edges, fixed), variable(right_edges, fixed), variable(found, fixed)]
+    elif kind == "shape":
+        turned, state, words, repeats, first = parts[1]
+        told = [fixed((parts[0], turned, state)), variable(words, row), variable(repeats, row), str(first)]
+    else:
+        told = [fixed(parts)]
+    return " ".join([kind] + told)
+
+
+def plain_read(line):
+    """The evidence with this text, or None: by what each word has to be."""
+    kind, *words = line.split(" ")
+    if not all(re.fullmatch("0|[1-9][0-9]{0,6}", word, re.ASCII) for word in words):
+        return None
+    rest = [int(word) for word in words]
+
+    def take(many):
+        if many > len(rest):
+            raise LookupError
+        taken = tuple(rest[:many])
+        del rest[:many]
+        return taken
+
+    def rows(long=None):
+        return tuple(take(take(1)[0] if long is None else long) for _ in range(take(1)[0]))
+
+    try:
+        if kind == "closed":
+            found = (kind, (rows(), rows(), rows(2), rows(2), rows(4)))
+        elif kind == "shape":
+            start, turned, state = take(3)
+            found = (kind, start, (turned, state, rows(), rows(), take(1)[0]))
+        else:
+            found = (kind, *take({"stop": 1, "back": 1, "loop": 3}[kind]))
+    except LookupError:
+        return None
+    return None if rest else plain_flags(found)
+
+
+def plain_flags(found):
+    """The evidence with True and False where the text has 1 and 0, or None if this is no evidence."""
+    kind, *parts = found
+    if kind == "closed":
+        numbers = [number for part in parts[0] for row in part for number in row]
+        return found if max(numbers, default=0) <= 1000000 else None
+    if parts[0] > 2000:
+        return None
+    if kind == "loop":
+        first, second, right = parts
+        return (kind, first, second, right == 1) if second <= 2000 and right in (0, 1) else None
+    if kind == "shape":
+        start, (turned, state, words, repeats, first) = parts
+        symbols = [symbol for word in words + repeats for symbol in word]
+        longest, shortest = max(map(len, words + repeats), default=0), min(map(len, repeats), default=0)
+        if turned not in (0, 1) or state > 3 or max(symbols, default=0) > 3 or longest > 24 or shortest < 1:
+            return None
+        if len(repeats) not in (1, 2) or len(words) != len(repeats) + 1 or first not in range(1, 21):
+            return None
+        return (kind, start, (turned == 1, state, words, repeats, first))
+    return found

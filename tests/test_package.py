@@ -50,6 +50,15 @@ INTERFACE = {
     "shapes": {
         "is_shape": ["machine", "value"], "shape_tape": ["shape", "number"], "has_shape": ["machine", "start", "shape"],
     },
+    "growing": {"find_shape": ["machine", "count"]},
+    "evidence": {
+        "is_evidence": ["value"], "shows": ["machine", "evidence"], "evidence_text": ["evidence"],
+        "read_evidence": ["line"], "mirrored_evidence": ["evidence"],
+    },
+    "deciding": {"decide": ["machine"]},
+    "census": {
+        "count_all": ["machines", "evidences"], "tree_census": ["states", "symbols", "count", "most"],
+    },
 }
 CONSTANTS = {
     "machines": {"MOST_STATES": 4, "MOST_SYMBOLS": 4, "STOP": -1},
